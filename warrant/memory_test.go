@@ -1,0 +1,90 @@
+package warrant_test
+
+import (
+	"reflect"
+	"slices"
+	"strings"
+	"testing"
+	"unsafe"
+
+	"warrant/warrant"
+)
+
+// stretch is where some memory begins, and where it ends.
+type stretch struct{ from, to uintptr }
+
+func (s stretch) meets(o stretch) bool { return s.from < o.to && o.from < s.to }
+
+func stretchOf(text string) stretch {
+	from := uintptr(unsafe.Pointer(unsafe.StringData(text)))
+	return stretch{from, from + uintptr(len(text))}
+}
+
+// stretches tells what all lists of a value reach, spare room included, and what its texts do.
+func stretches(v reflect.Value) (lists, texts []stretch) {
+	add := func(v reflect.Value) {
+		l, t := stretches(v)
+		lists, texts = append(lists, l...), append(texts, t...)
+	}
+	switch v.Kind() {
+	case reflect.String:
+		texts = append(texts, stretchOf(v.String()))
+	case reflect.Slice:
+		lists = append(lists, stretch{v.Pointer(), v.Pointer() + uintptr(v.Cap())*v.Type().Elem().Size()})
+		for i := range v.Len() {
+			add(v.Index(i))
+		}
+	case reflect.Struct:
+		for i := range v.NumField() {
+			add(v.Field(i))
+		}
+	}
+	return lists, texts
+}
+
+// What is handed out shares nothing with what came in, and no two lists of it share anything.
+func TestAnswersAreNew(t *testing.T) {
+	source := `p("a", hex:0aff, [1, [2], []], [[3]]); ` + times(5, `q(1, 2); r($x, $y) <- p($x), q($y, [1, 2, 3]), $x == 1, $y ^= "abc"; check if p($x), q($x) or 1 < 2, 3 < 4 or q($z);`, " ")
+	block, err := warrant.Parse(source)
+	if err != nil {
+		t.Fatal(told(err))
+	}
+	rules := strings.Clone(`allow if p($xyz), $xyz ^= "abc" or q(1, [2, [3]]); deny if p(), q(); deny if r();`)
+	policies, err := warrant.ParsePolicies(rules)
+	if err != nil {
+		t.Fatal(told(err))
+	}
+	for _, c := range []struct {
+		answer any
+		source string
+	}{{block, source}, {policies, rules}} {
+		lists, texts := stretches(reflect.ValueOf(c.answer))
+		for i, l := range lists {
+			if slices.ContainsFunc(lists[:i], l.meets) {
+				t.Error("P2: two lists of an answer share memory")
+			}
+		}
+		if slices.ContainsFunc(texts, stretchOf(c.source).meets) {
+			t.Error("P2: an answer keeps a piece of the text that came in")
+		}
+	}
+}
+
+// What the caller does with one answer is not to be seen in the next.
+func TestNothingIsKept(t *testing.T) {
+	source := `p("a", [1, 2]); r($x) <- p($x), $x == 1; check if p($x) or 1 < 2;`
+	first, _ := warrant.Parse(source)
+	want, _ := warrant.Parse(source)
+	first.Facts[0].Terms[1].List[0] = text("spoilt")
+	first.Facts[0].Name = "spoilt"
+	first.Rules[0].Guards[0] = warrant.Guard{}
+	first.Checks[0].Either[0].Body = nil
+	if again, err := warrant.Parse(source); err != nil || !reflect.DeepEqual(again, want) {
+		t.Errorf("P2: the second answer is %v, want %v", again, want)
+	}
+	_, err := warrant.Parse("p(")
+	err.(*warrant.Fault).At = 99
+	if _, err := warrant.Parse("p("); told(err) != "form at 2" {
+		t.Errorf("P2: a Fault is kept: %s", told(err))
+	}
+}
