@@ -22,6 +22,7 @@ const (
 	mostBodies     = 4     // bodies of a check, or of a policy
 	mostStatements = 24    // facts, rules, checks, policies: of each
 	mostSource     = 8_000 // bytes of a text that is parsed
+	mostBytes      = 4_000 // bytes of an encoded block
 )
 
 // guardMarks has the mark of each guard: that of Op 1 first.

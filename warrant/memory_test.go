@@ -54,10 +54,18 @@ func TestAnswersAreNew(t *testing.T) {
 	if err != nil {
 		t.Fatal(told(err))
 	}
+	encoded, err := warrant.Encode(block)
+	if err != nil {
+		t.Fatal(told(err))
+	}
+	decoded, err := warrant.Decode(encoded)
+	if err != nil {
+		t.Fatal(told(err))
+	}
 	for _, c := range []struct {
 		answer any
 		source string
-	}{{block, source}, {policies, rules}} {
+	}{{block, source}, {policies, rules}, {decoded, encoded}} {
 		lists, texts := stretches(reflect.ValueOf(c.answer))
 		for i, l := range lists {
 			if slices.ContainsFunc(lists[:i], l.meets) {
@@ -82,9 +90,33 @@ func TestNothingIsKept(t *testing.T) {
 	if again, err := warrant.Parse(source); err != nil || !reflect.DeepEqual(again, want) {
 		t.Errorf("P2: the second answer is %v, want %v", again, want)
 	}
+	encoded, _ := warrant.Encode(want)
+	decoded, _ := warrant.Decode(encoded)
+	decoded.Facts[0].Terms[1].List[0] = text("spoilt")
+	decoded.Checks[0].Either[0].Body = nil
+	if again, err := warrant.Decode(encoded); err != nil || !reflect.DeepEqual(again, want) {
+		t.Errorf("P2: the second answer of Decode is %v, want %v", again, want)
+	}
 	_, err := warrant.Parse("p(")
 	err.(*warrant.Fault).At = 99
 	if _, err := warrant.Parse("p("); told(err) != "form at 2" {
 		t.Errorf("P2: a Fault is kept: %s", told(err))
+	}
+}
+
+// A block that is printed or encoded is only read, spare room included.
+func TestBlocksAreOnlyRead(t *testing.T) {
+	source := `p("a", [1, [2]]); r($x) <- p($x), $x == 1; check if p($x) or 1 < 2;`
+	made := func() warrant.Block {
+		b, _ := warrant.Parse(source)
+		roomy := append(make([]warrant.Term, 0, 9), b.Facts[0].Terms...)
+		b.Facts[0].Terms = roomy
+		return b
+	}
+	b, want := made(), made()
+	warrant.Print(b)
+	warrant.Encode(b)
+	if !reflect.DeepEqual(b, want) || !reflect.DeepEqual(b.Facts[0].Terms[:9], want.Facts[0].Terms[:9]) {
+		t.Errorf("P2: the block is %v, was %v", b, want)
 	}
 }

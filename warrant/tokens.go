@@ -138,7 +138,7 @@ func (r *reader) readVariable() {
 	if len(name) > mostName {
 		r.refuse(ErrLimit)
 	}
-	if name == "" || !isSmall(name[0]) {
+	if !isName(name) {
 		r.refuse(ErrWord)
 	}
 	r.next.term = Term{Kind: kindVariable, Text: strings.Clone(name)}

@@ -126,13 +126,42 @@ func Parse(text string) (Block, error) { return readWhole(text, (*reader).block)
 func ParsePolicies(text string) ([]Policy, error) { return readWhole(text, (*reader).policies) }
 
 // Print makes a text of a block (P7).
-func Print(b Block) (string, error) { return "", nil }
+func Print(b Block) (string, error) {
+	if err := b.wrong(); err != nil {
+		return "", err
+	}
+	var p printer
+	p.block(b)
+	return p.String(), nil
+}
 
 // Encode makes bytes of a block (P8).
-func Encode(b Block) (string, error) { return "", nil }
+func Encode(b Block) (string, error) {
+	if err := b.wrong(); err != nil {
+		return "", err
+	}
+	var e encoder
+	e.block(b)
+	if e.Len() > mostBytes {
+		return "", ErrLimit
+	}
+	return e.String(), nil
+}
 
 // Decode makes a block of bytes (P9).
-func Decode(text string) (Block, error) { return Block{}, nil }
+func Decode(text string) (Block, error) {
+	if len(text) > mostBytes {
+		return Block{}, ErrLimit
+	}
+	b, err := decodeWhole(text)
+	if err != nil {
+		return Block{}, err
+	}
+	if err := b.wrong(); err != nil {
+		return Block{}, err
+	}
+	return b, nil
+}
 
 // Solve tells all that follows from facts and rules (P11).
 func Solve(facts []Atom, rules []Rule) ([]Atom, error) { return nil, nil }
