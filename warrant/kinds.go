@@ -23,6 +23,8 @@ const (
 	mostStatements = 24    // facts, rules, checks, policies: of each
 	mostSource     = 8_000 // bytes of a text that is parsed
 	mostBytes      = 4_000 // bytes of an encoded block
+	mostFacts      = 60    // facts of a world
+	mostRounds     = 12    // rounds that bring something new
 )
 
 // guardMarks has the mark of each guard: that of Op 1 first.

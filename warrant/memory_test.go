@@ -78,6 +78,32 @@ func TestAnswersAreNew(t *testing.T) {
 	}
 }
 
+// What follows shares nothing with the facts and rules from which it does, though all of it comes from there.
+func TestWhatFollowsIsNew(t *testing.T) {
+	b := parsed(t, `p("abc", hex:0aff, [1, ["def"], []]); p("abc", hex:0aff, [1, ["def"], []]); p("x", "abc", 1); q($z, $z, $x, ["ghi", [3]]) <- p($x, $y, $z); r([["ghi"]], "jkl") <- 1 < 2; r($x, $x) <- q($x, $x, $y, $z);`)
+	got, err := warrant.Solve(b.Facts, b.Rules)
+	if err != nil || len(got) != 7 {
+		t.Fatal(told(err), len(got))
+	}
+	lists, texts := stretches(reflect.ValueOf(got))
+	for i, l := range lists {
+		if slices.ContainsFunc(lists[:i], l.meets) {
+			t.Error("P2: two lists of what follows share memory")
+		}
+	}
+	givenLists, givenTexts := stretches(reflect.ValueOf(b))
+	for _, l := range givenLists {
+		if slices.ContainsFunc(lists, l.meets) {
+			t.Error("P2: what follows shares a list with what came in")
+		}
+	}
+	for _, s := range givenTexts {
+		if slices.ContainsFunc(texts, s.meets) {
+			t.Error("P2: what follows keeps a text that came in")
+		}
+	}
+}
+
 // What the caller does with one answer is not to be seen in the next.
 func TestNothingIsKept(t *testing.T) {
 	source := `p("a", [1, 2]); r($x) <- p($x), $x == 1; check if p($x) or 1 < 2;`
@@ -97,6 +123,12 @@ func TestNothingIsKept(t *testing.T) {
 	if again, err := warrant.Decode(encoded); err != nil || !reflect.DeepEqual(again, want) {
 		t.Errorf("P2: the second answer of Decode is %v, want %v", again, want)
 	}
+	followed, _ := warrant.Solve(want.Facts, nil)
+	followed[0].Terms[1].List[0] = text("spoilt")
+	followed[0].Name = "spoilt"
+	if again, err := warrant.Solve(want.Facts, nil); err != nil || !reflect.DeepEqual(again, want.Facts) {
+		t.Errorf("P2: the second answer of Solve is %v, want %v", again, want.Facts)
+	}
 	_, err := warrant.Parse("p(")
 	err.(*warrant.Fault).At = 99
 	if _, err := warrant.Parse("p("); told(err) != "form at 2" {
@@ -104,19 +136,25 @@ func TestNothingIsKept(t *testing.T) {
 	}
 }
 
-// A block that is printed or encoded is only read, spare room included.
+// A block that is printed, encoded or solved is only read, spare room included.
 func TestBlocksAreOnlyRead(t *testing.T) {
-	source := `p("a", [1, [2]]); r($x) <- p($x), $x == 1; check if p($x) or 1 < 2;`
+	source := `p("a", [1, [2]]); r($y) <- p($x, $y), $x == "a"; check if p($x) or 1 < 2;`
 	made := func() warrant.Block {
 		b, _ := warrant.Parse(source)
 		roomy := append(make([]warrant.Term, 0, 9), b.Facts[0].Terms...)
 		b.Facts[0].Terms = roomy
+		b.Facts = append(make([]warrant.Atom, 0, 9), b.Facts...)
+		b.Rules = append(make([]warrant.Rule, 0, 9), b.Rules...)
 		return b
 	}
 	b, want := made(), made()
 	warrant.Print(b)
 	warrant.Encode(b)
+	warrant.Solve(b.Facts, b.Rules)
 	if !reflect.DeepEqual(b, want) || !reflect.DeepEqual(b.Facts[0].Terms[:9], want.Facts[0].Terms[:9]) {
 		t.Errorf("P2: the block is %v, was %v", b, want)
+	}
+	if !reflect.DeepEqual(b.Facts[:9], want.Facts[:9]) || !reflect.DeepEqual(b.Rules[:9], want.Rules[:9]) {
+		t.Errorf("P2: behind its facts or rules the block has got something: %v", b)
 	}
 }

@@ -16,7 +16,7 @@ type judged struct {
 	want  string
 }
 
-// judge asks Print and Encode, which both refuse what P4 does.
+// judge asks Print and Encode, which refuse what P4 does, and, of a block without checks, Solve, which does so too.
 func judge(t *testing.T, cases []judged) {
 	t.Helper()
 	for i, c := range cases {
@@ -27,6 +27,13 @@ func judge(t *testing.T, cases []judged) {
 		encoded, err := warrant.Encode(c.block)
 		if got := told(err); got != c.want || err != nil && encoded != "" {
 			t.Errorf("P4: case %d, %+v: Encode tells %s %q, want %s", i, c.block, got, encoded, c.want)
+		}
+		if len(c.block.Checks) > 0 {
+			continue
+		}
+		following, err := warrant.Solve(c.block.Facts, c.block.Rules)
+		if got := told(err); got != c.want || err != nil && len(following) > 0 {
+			t.Errorf("P11: case %d, %+v: Solve tells %s %+v, want %s", i, c.block, got, following, c.want)
 		}
 	}
 }
@@ -306,7 +313,7 @@ func spoilRule(r *rand.Rand, rule *warrant.Rule) {
 	}
 }
 
-// Whatever a block is, Print and Encode tell the same of it, and bytes come only of what is right.
+// Whatever a block is, Print, Encode and Solve tell the same of it, and bytes come only of what is right.
 func TestSpoiltBlocks(t *testing.T) {
 	r := rand.New(rand.NewPCG(9, 10))
 	for range 5_000 {
@@ -330,6 +337,11 @@ func TestSpoiltBlocks(t *testing.T) {
 		}
 		if other == nil {
 			hasOneForm(t, encoded)
+		}
+		b.Checks = nil
+		_, err = warrant.Print(b)
+		if _, other := warrant.Solve(b.Facts, b.Rules); told(err) != told(other) {
+			t.Fatalf("P11: %+v: Print tells %s, Solve %s", b, told(err), told(other))
 		}
 	}
 }

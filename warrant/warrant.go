@@ -164,7 +164,17 @@ func Decode(text string) (Block, error) {
 }
 
 // Solve tells all that follows from facts and rules (P11).
-func Solve(facts []Atom, rules []Rule) ([]Atom, error) { return nil, nil }
+func Solve(facts []Atom, rules []Rule) ([]Atom, error) {
+	b := Block{Facts: facts, Rules: rules}
+	if err := b.wrong(); err != nil {
+		return nil, err
+	}
+	w := newWorld()
+	if !w.take(facts) || !w.close(rules) {
+		return nil, ErrLimit
+	}
+	return w.told(), nil
+}
 
 // Mint makes a token of a first block (P13).
 func Mint(key string, b Block) (string, error) { return "", nil }
