@@ -14,8 +14,8 @@ func (d *decoder) refuse(why error) {
 	panic(refusal{why})
 }
 
-// decodeWhole reads a block that takes all of the text, right or not, and catches what stops the reading.
-func decodeWhole(text string) (whole Block, err error) {
+// decodeWhole reads something that takes all of the text, and catches what stops the reading.
+func decodeWhole[T any](text string, decode func(*decoder) T) (whole T, err error) {
 	defer func() {
 		switch caught := recover().(type) {
 		case nil:
@@ -26,13 +26,14 @@ func decodeWhole(text string) (whole Block, err error) {
 		}
 	}()
 	d := &decoder{left: text}
-	b := d.block()
+	read := decode(d)
 	if d.left != "" {
 		d.refuse(ErrBytes)
 	}
-	return b, nil
+	return read, nil
 }
 
+// block reads a block, right or not.
 func (d *decoder) block() Block {
 	return Block{
 		Facts:  decodeMany(d, mostStatements, d.atom),

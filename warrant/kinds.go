@@ -25,6 +25,8 @@ const (
 	mostBytes      = 4_000 // bytes of an encoded block
 	mostFacts      = 60    // facts of a world
 	mostRounds     = 12    // rounds that bring something new
+	mostKey        = 100   // bytes of a key
+	mostBlocks     = 8     // blocks of a token
 )
 
 // guardMarks has the mark of each guard: that of Op 1 first.

@@ -104,6 +104,43 @@ func TestWhatFollowsIsNew(t *testing.T) {
 	}
 }
 
+// What a token is made of, and what is made of it, share nothing with it.
+func TestTokensAreNew(t *testing.T) {
+	b := parsed(t, `p("abc", hex:0aff, [1, ["def"], []]); q($x) <- p($x), $x ^= "abc"; check if p("abc") or q($y);`)
+	first, err := warrant.Mint("key", b)
+	if err != nil {
+		t.Fatal(told(err))
+	}
+	same, err := warrant.Attenuate(first)
+	if err != nil || same != first || stretchOf(same).meets(stretchOf(first)) {
+		t.Errorf("P2: nothing put behind a token: %s, and the same memory", told(err))
+	}
+	longer, err := warrant.Attenuate(first, b, b)
+	if err != nil {
+		t.Fatal(told(err))
+	}
+	sealed, err := warrant.Seal(longer)
+	if err != nil {
+		t.Fatal(told(err))
+	}
+	blocks, ids, err := warrant.Verify("key", sealed)
+	if err != nil || len(blocks) != 3 {
+		t.Fatal(told(err), len(blocks))
+	}
+	lists, texts := stretches(reflect.ValueOf(struct {
+		Blocks []warrant.Block
+		Ids    []string
+	}{blocks, ids}))
+	for i, l := range lists {
+		if slices.ContainsFunc(lists[:i], l.meets) {
+			t.Error("P2: two lists of what Verify tells share memory")
+		}
+	}
+	if slices.ContainsFunc(texts, stretchOf(sealed).meets) {
+		t.Error("P2: what Verify tells keeps a piece of the token")
+	}
+}
+
 // What the caller does with one answer is not to be seen in the next.
 func TestNothingIsKept(t *testing.T) {
 	source := `p("a", [1, 2]); r($x) <- p($x), $x == 1; check if p($x) or 1 < 2;`
@@ -129,6 +166,15 @@ func TestNothingIsKept(t *testing.T) {
 	if again, err := warrant.Solve(want.Facts, nil); err != nil || !reflect.DeepEqual(again, want.Facts) {
 		t.Errorf("P2: the second answer of Solve is %v, want %v", again, want.Facts)
 	}
+	token, _ := warrant.Mint("key", want)
+	blocks, ids, _ := warrant.Verify("key", token)
+	blocks[0].Facts[0].Terms[1].List[0] = text("spoilt")
+	blocks[0].Checks[0].Either[0].Body = nil
+	id := ids[0]
+	ids[0] = "spoilt"
+	if again, ids, err := warrant.Verify("key", token); err != nil || !reflect.DeepEqual(again, []warrant.Block{want}) || ids[0] != id {
+		t.Errorf("P2: the second answer of Verify is %v %x, want %v %x", again, ids, want, id)
+	}
 	_, err := warrant.Parse("p(")
 	err.(*warrant.Fault).At = 99
 	if _, err := warrant.Parse("p("); told(err) != "form at 2" {
@@ -136,7 +182,7 @@ func TestNothingIsKept(t *testing.T) {
 	}
 }
 
-// A block that is printed, encoded or solved is only read, spare room included.
+// A block that is printed, encoded, solved or put into a token is only read, spare room included.
 func TestBlocksAreOnlyRead(t *testing.T) {
 	source := `p("a", [1, [2]]); r($y) <- p($x, $y), $x == "a"; check if p($x) or 1 < 2;`
 	made := func() warrant.Block {
@@ -151,6 +197,12 @@ func TestBlocksAreOnlyRead(t *testing.T) {
 	warrant.Print(b)
 	warrant.Encode(b)
 	warrant.Solve(b.Facts, b.Rules)
+	token, _ := warrant.Mint("key", b)
+	blocks := append(make([]warrant.Block, 0, 9), b, b)
+	warrant.Attenuate(token, blocks...)
+	if !reflect.DeepEqual(blocks[:9], append([]warrant.Block{want, want}, make([]warrant.Block, 7)...)) {
+		t.Errorf("P2: the list of blocks is %v", blocks[:9])
+	}
 	if !reflect.DeepEqual(b, want) || !reflect.DeepEqual(b.Facts[0].Terms[:9], want.Facts[0].Terms[:9]) {
 		t.Errorf("P2: the block is %v, was %v", b, want)
 	}

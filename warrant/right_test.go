@@ -16,9 +16,10 @@ type judged struct {
 	want  string
 }
 
-// judge asks Print and Encode, which refuse what P4 does, and, of a block without checks, Solve, which does so too.
+// judge asks Print, Encode, Mint and Attenuate, which refuse what P4 does, and, of a block without checks, Solve, which does so too.
 func judge(t *testing.T, cases []judged) {
 	t.Helper()
+	first := token(t, 1)
 	for i, c := range cases {
 		printed, err := warrant.Print(c.block)
 		if got := told(err); got != c.want || err != nil && printed != "" {
@@ -27,6 +28,14 @@ func judge(t *testing.T, cases []judged) {
 		encoded, err := warrant.Encode(c.block)
 		if got := told(err); got != c.want || err != nil && encoded != "" {
 			t.Errorf("P4: case %d, %+v: Encode tells %s %q, want %s", i, c.block, got, encoded, c.want)
+		}
+		minted, err := warrant.Mint("key", c.block)
+		if got := told(err); got != c.want || err != nil && minted != "" {
+			t.Errorf("P13: case %d, %+v: Mint tells %s %q, want %s", i, c.block, got, minted, c.want)
+		}
+		narrowed, err := warrant.Attenuate(first, c.block)
+		if got := told(err); got != c.want || err != nil && narrowed != "" {
+			t.Errorf("P14: case %d, %+v: Attenuate tells %s %q, want %s", i, c.block, got, narrowed, c.want)
 		}
 		if len(c.block.Checks) > 0 {
 			continue

@@ -153,7 +153,7 @@ func Decode(text string) (Block, error) {
 	if len(text) > mostBytes {
 		return Block{}, ErrLimit
 	}
-	b, err := decodeWhole(text)
+	b, err := decodeWhole(text, (*decoder).block)
 	if err != nil {
 		return Block{}, err
 	}
@@ -177,16 +177,63 @@ func Solve(facts []Atom, rules []Rule) ([]Atom, error) {
 }
 
 // Mint makes a token of a first block (P13).
-func Mint(key string, b Block) (string, error) { return "", nil }
+func Mint(key string, b Block) (string, error) {
+	if !isKey(key) {
+		return "", ErrKey
+	}
+	text, err := Encode(b)
+	if err != nil {
+		return "", err
+	}
+	c := chain{links: []link{{text: text, block: b}}, tag: sums.Keyed(key, text)}
+	return c.whole(), nil
+}
 
 // Attenuate puts blocks behind those of a token (P14).
-func Attenuate(text string, blocks ...Block) (string, error) { return "", nil }
+func Attenuate(text string, blocks ...Block) (string, error) {
+	c, err := unsealed(text)
+	if err != nil {
+		return "", err
+	}
+	for _, b := range blocks {
+		if err := c.add(b); err != nil {
+			return "", err
+		}
+	}
+	return c.whole(), nil
+}
 
 // Seal ends a token (P14).
-func Seal(text string) (string, error) { return "", nil }
+func Seal(text string) (string, error) {
+	c, err := unsealed(text)
+	if err != nil {
+		return "", err
+	}
+	c.seal()
+	return c.whole(), nil
+}
 
 // Verify tells a token's blocks, and of each the Sum of its tag (P15).
-func Verify(key, text string) ([]Block, []string, error) { return nil, nil, nil }
+func Verify(key, text string) ([]Block, []string, error) {
+	if !isKey(key) {
+		return nil, nil, ErrKey
+	}
+	c, err := opened(text)
+	if err != nil {
+		return nil, nil, err
+	}
+	tags := c.tags(key)
+	if !c.ends(tags[len(tags)-1]) {
+		return nil, nil, ErrTag
+	}
+	var blocks []Block
+	var ids []string
+	for i, l := range c.links {
+		blocks = append(blocks, l.block)
+		ids = append(ids, Sum(string(tags[i][:])))
+	}
+	return blocks, ids, nil
+}
 
 // Authorize tells a verdict (P16).
 func Authorize(key, text string, q Request, policies []Policy) (int, error) { return 0, nil }
