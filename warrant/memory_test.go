@@ -175,6 +175,12 @@ func TestNothingIsKept(t *testing.T) {
 	if again, ids, err := warrant.Verify("key", token); err != nil || !reflect.DeepEqual(again, []warrant.Block{want}) || ids[0] != id {
 		t.Errorf("P2: the second answer of Verify is %v %x, want %v %x", again, ids, want, id)
 	}
+	q, allow := warrant.Request{Facts: want.Facts, Revoked: []string{id}}, []warrant.Policy{{Allow: true, Either: want.Checks[0].Either}}
+	for range 2 {
+		asks(t, "revoked", "key", token, q, allow, "revoked")
+		asks(t, "not revoked", "key", token, warrant.Request{}, allow, "allow")
+		asks(t, "no policies", "key", token, warrant.Request{Facts: want.Facts}, nil, "deny")
+	}
 	_, err := warrant.Parse("p(")
 	err.(*warrant.Fault).At = 99
 	if _, err := warrant.Parse("p("); told(err) != "form at 2" {
@@ -208,5 +214,41 @@ func TestBlocksAreOnlyRead(t *testing.T) {
 	}
 	if !reflect.DeepEqual(b.Facts[:9], want.Facts[:9]) || !reflect.DeepEqual(b.Rules[:9], want.Rules[:9]) {
 		t.Errorf("P2: behind its facts or rules the block has got something: %v", b)
+	}
+}
+
+// roomy is the same list with spare room behind it.
+func roomy[T any](l []T) []T { return append(make([]T, 0, len(l)+9), l...) }
+
+// untouched: the lists are the same, spare room included.
+func untouched[T any](got, want []T) bool {
+	return reflect.DeepEqual(got[:cap(got)], want[:cap(want)])
+}
+
+// What Authorize is given is only read, spare room included.
+func TestRequestsAreOnlyRead(t *testing.T) {
+	token := minted(t, `right("a"); may($x) <- right($x); check if may("b"); / right("c"); had($x) <- may($x); check if had("c");`)
+	made := func() (warrant.Request, []warrant.Policy) {
+		facts := roomy(parsed(t, `right("b"); list([1, ["x"]]);`).Facts)
+		facts[1].Terms = roomy(facts[1].Terms)
+		facts[1].Terms[0].List = roomy(facts[1].Terms[0].List)
+		policies := roomy(ruled(t, `deny if may("c") or list([2]); allow if may($x), list($y), $x != $y or may($x), $x ^= "b";`))
+		policies[1].Either = roomy(policies[1].Either)
+		policies[1].Either[1].Body = roomy(policies[1].Either[1].Body)
+		policies[1].Either[1].Guards = roomy(policies[1].Either[1].Guards)
+		return warrant.Request{Clock: 4, Facts: facts, Revoked: roomy([]string{"z", "x", "y"})}, policies
+	}
+	q, policies := made()
+	asks(t, "with spare room", "key", token, q, policies, "allow")
+	want, wanted := made()
+	if !untouched(q.Facts, want.Facts) || !untouched(q.Facts[1].Terms, want.Facts[1].Terms) || !untouched(q.Facts[1].Terms[0].List, want.Facts[1].Terms[0].List) {
+		t.Errorf("P2: the request's facts are %v, were %v", q.Facts, want.Facts)
+	}
+	if !untouched(q.Revoked, want.Revoked) || q.Clock != want.Clock {
+		t.Errorf("P2: the request is %v, was %v", q, want)
+	}
+	either, was := policies[1].Either, wanted[1].Either
+	if !untouched(policies, wanted) || !untouched(either, was) || !untouched(either[1].Body, was[1].Body) || !untouched(either[1].Guards, was[1].Guards) {
+		t.Errorf("P2: the policies are %v, were %v", policies, wanted)
 	}
 }

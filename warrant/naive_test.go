@@ -22,6 +22,14 @@ func bytesOf(a warrant.Atom) string {
 	return encoded
 }
 
+func naiveOf(l []warrant.Atom) naive {
+	n := naive{}
+	for _, a := range l {
+		n[bytesOf(a)] = a
+	}
+	return n
+}
+
 // replaced is terms with what their variables stand for.
 func replaced(terms []warrant.Term, bound map[string]warrant.Term) []warrant.Term {
 	var l []warrant.Term
@@ -160,10 +168,7 @@ func fewBlock(r *rand.Rand) warrant.Block {
 // agreesWithNaive asks both, and tells what there was to see.
 func agreesWithNaive(t *testing.T, b warrant.Block) string {
 	t.Helper()
-	n := naive{}
-	for _, a := range b.Facts {
-		n[bytesOf(a)] = a
-	}
+	n := naiveOf(b.Facts)
 	first := len(n)
 	rounds := n.close(b.Rules)
 	want, seen := "limit", "exceeded"

@@ -16,7 +16,7 @@ type judged struct {
 	want  string
 }
 
-// judge asks Print, Encode, Mint and Attenuate, which refuse what P4 does, and, of a block without checks, Solve, which does so too.
+// judge asks Print, Encode, Mint and Attenuate, which refuse what P4 does, and, of a block without checks, Solve, which does so too; of a block without rules it asks Authorize, as of a request's facts and of policies.
 func judge(t *testing.T, cases []judged) {
 	t.Helper()
 	first := token(t, 1)
@@ -37,6 +37,9 @@ func judge(t *testing.T, cases []judged) {
 		if got := told(err); got != c.want || err != nil && narrowed != "" {
 			t.Errorf("P14: case %d, %+v: Attenuate tells %s %q, want %s", i, c.block, got, narrowed, c.want)
 		}
+		if len(c.block.Rules) == 0 {
+			judgeAsked(t, c.block.Facts, policiesOf(c.block.Checks), c.want)
+		}
 		if len(c.block.Checks) > 0 {
 			continue
 		}
@@ -45,6 +48,26 @@ func judge(t *testing.T, cases []judged) {
 			t.Errorf("P11: case %d, %+v: Solve tells %s %+v, want %s", i, c.block, got, following, c.want)
 		}
 	}
+}
+
+// judgeAsked asks Authorize, which refuses what P4 does of a request's facts, and then of policies, whatever the token is.
+func judgeAsked(t *testing.T, facts []warrant.Atom, policies []warrant.Policy, want string) {
+	t.Helper()
+	for _, given := range []string{token(t, 1), ""} {
+		v, err := warrant.Authorize("key", given, warrant.Request{Facts: facts}, policies)
+		if got := told(err); got != want || (err == nil) != (v > 0) {
+			t.Errorf("P16: facts %+v, policies %+v: Authorize tells %s %d, want %s", facts, policies, got, v, want)
+		}
+	}
+}
+
+// policiesOf has the bodies of checks, which P4 looks at alike.
+func policiesOf(checks []warrant.Check) []warrant.Policy {
+	var l []warrant.Policy
+	for _, c := range checks {
+		l = append(l, warrant.Policy{Either: c.Either})
+	}
+	return l
 }
 
 // judgeTerms asks of each term as one of a fact, of an atom of a check, and of both sides of a guard.
@@ -228,17 +251,14 @@ func TestChecksRight(t *testing.T) {
 	} {
 		judge(t, []judged{{check(c.bodies...), c.want}})
 		for _, allow := range []bool{false, true} {
-			policies := []warrant.Policy{{Allow: allow, Either: c.bodies}}
-			if got := told(warrant.WrongPolicies(policies)); got != c.want {
-				t.Errorf("P4: policies %+v: %s, want %s", policies, got, c.want)
-			}
+			judgeAsked(t, nil, []warrant.Policy{{Allow: allow, Either: c.bodies}}, c.want)
 		}
 	}
 }
 
 func TestPoliciesRight(t *testing.T) {
 	fine := warrant.Policy{Either: []warrant.Rule{body(atoms(atom("q")))}}
-	for i, c := range []struct {
+	for _, c := range []struct {
 		policies []warrant.Policy
 		want     string
 	}{
@@ -246,9 +266,7 @@ func TestPoliciesRight(t *testing.T) {
 		{make([]warrant.Policy, 24), "form"}, {append(same(23, fine), warrant.Policy{}), "form"},
 		{[]warrant.Policy{fine, {Either: make([]warrant.Rule, 5)}, {}}, "limit"},
 	} {
-		if got := told(warrant.WrongPolicies(c.policies)); got != c.want {
-			t.Errorf("P4: policies, case %d: %s, want %s", i, got, c.want)
-		}
+		judgeAsked(t, nil, c.policies, c.want)
 	}
 }
 
@@ -322,7 +340,7 @@ func spoilRule(r *rand.Rand, rule *warrant.Rule) {
 	}
 }
 
-// Whatever a block is, Print, Encode and Solve tell the same of it, and bytes come only of what is right.
+// Whatever a block is, Print, Encode, Solve and Authorize tell the same of it, and bytes come only of what is right.
 func TestSpoiltBlocks(t *testing.T) {
 	r := rand.New(rand.NewPCG(9, 10))
 	for range 5_000 {
@@ -352,5 +370,8 @@ func TestSpoiltBlocks(t *testing.T) {
 		if _, other := warrant.Solve(b.Facts, b.Rules); told(err) != told(other) {
 			t.Fatalf("P11: %+v: Print tells %s, Solve %s", b, told(err), told(other))
 		}
+		b.Rules = nil
+		_, err = warrant.Print(b)
+		judgeAsked(t, b.Facts, nil, told(err))
 	}
 }

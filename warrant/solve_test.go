@@ -433,29 +433,3 @@ func TestManyWays(t *testing.T) {
 		}
 	}
 }
-
-func TestHowManyFactsAtFirst(t *testing.T) {
-	var l []warrant.Atom
-	for i := range 61 {
-		l = append(l, atom("n", number(int64(i))))
-	}
-	one := []warrant.Rule{{Head: atom("one"), Body: atoms(l[0])}}
-	known := []warrant.Rule{{Head: l[3], Body: atoms(l[59])}}
-	for i, c := range []struct {
-		facts []warrant.Atom
-		rules []warrant.Rule
-		want  bool
-	}{
-		{l[:60], nil, false},
-		{l[:60], known, false},
-		{slices.Concat(l[:60], l[:60]), nil, false},
-		{l, nil, true},
-		{slices.Concat(l[:60], l[:60], l), nil, true},
-		{l[:60], one, true},
-		{l[:59], one, false},
-	} {
-		if got := warrant.Exceeds(c.facts, c.rules); got != c.want {
-			t.Errorf("P11: case %d: exceeded: %v, want %v", i, got, c.want)
-		}
-	}
-}

@@ -169,8 +169,8 @@ func Solve(facts []Atom, rules []Rule) ([]Atom, error) {
 	if err := b.wrong(); err != nil {
 		return nil, err
 	}
-	w := newWorld()
-	if !w.take(facts) || !w.close(rules) {
+	w, room := closedWorld(facts, rules)
+	if !room {
 		return nil, ErrLimit
 	}
 	return w.told(), nil
@@ -236,4 +236,22 @@ func Verify(key, text string) ([]Block, []string, error) {
 }
 
 // Authorize tells a verdict (P16).
-func Authorize(key, text string, q Request, policies []Policy) (int, error) { return 0, nil }
+func Authorize(key, text string, q Request, policies []Policy) (int, error) {
+	asked := Block{Facts: q.Facts}
+	if err := asked.wrong(); err != nil {
+		return 0, err
+	}
+	if err := wrongPolicies(policies); err != nil {
+		return 0, err
+	}
+	blocks, ids, err := Verify(key, text)
+	switch {
+	case errors.Is(err, ErrTag):
+		return verdictBadTag, nil
+	case err != nil:
+		return verdictMalformed, nil
+	case isRevoked(ids, q.Revoked):
+		return verdictRevoked, nil
+	}
+	return decided(blocks, q, policies), nil
+}

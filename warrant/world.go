@@ -24,6 +24,12 @@ func newWorld() *world {
 	return &world{known: map[fact]struct{}{}, numbers: map[string]int{}}
 }
 
+// closedWorld is facts and all that follows from them by rules. It tells false if that is more than may be.
+func closedWorld(facts []Atom, rules []Rule) (*world, bool) {
+	w := newWorld()
+	return w, w.take(facts) && w.close(rules)
+}
+
 // take lets atoms that have no variables join the facts. It tells whether there was room.
 func (w *world) take(atoms []Atom) bool {
 	for _, a := range atoms {
